@@ -1,0 +1,1 @@
+"""Waypins: a line that turns about pins, each by its way."""
