@@ -1,13 +1,12 @@
 """Stands of a line, and the beats by which it goes from one to the next."""
 
-from waypins.boards import OTHER_WAY, cross, gap, is_pin_number, is_tuple_of, need_board, need_look, need_pin
+from waypins.boards import OTHER_WAY, gap, is_pin_number, is_tuple_of, need_board, need_look, need_pin
 from waypins.errors import NoNumber, NoStand
-from waypins.numbers import line_number, need_number
+from waypins.numbers import need_number
+from waypins.turns import OTHER_WORD, Turns, first_met, trail, turned_pairs, ways_of
 
-OTHER_WORD = {"ahead": "behind", "behind": "ahead"}
 WORDS = ("ahead", "behind")
 MOST_BEATS = 1000000000000
-MEETINGS_LOOK = (1000, 1)
 
 
 def stand_holds(board, thing):
@@ -41,49 +40,32 @@ def look_of(board, stand):
     return gap(board[last], board[own])
 
 
-def comes_to(one, other, way):
-    """Whether what looks along one looks along other ahead of half a turn by the way."""
-    turn = cross(one, other)
-    return turn > 0 if way == "left" else turn < 0
-
-
-def half_turn(board, pin, look, way):
-    """The (other, word) that a line on the pin, which looks so, meets in half a turn by the way, one behind the other.
-
-    What it lies along at first is left out.
-    """
-    met = []
-    for other, place in enumerate(board):
-        ahead_look = gap(board[pin], place)
-        if comes_to(look, ahead_look, way):
-            met.append((ahead_look, other, "ahead"))
-        behind_look = gap(place, board[pin])
-        if comes_to(look, behind_look, way):
-            met.append((behind_look, other, "behind"))
-    # All these looks lie within one half turn, so each comes behind as many as come to it.
-    rows = sorted(met, key=lambda row: len([one for one in met if comes_to(one[0], row[0], way)]))
-    return [(row[1], row[2]) for row in rows]
-
-
 def stand_met(board, pin, look):
     """The stand in which a line on the pin, which looks so, is as soon as it meets another one."""
-    other, word = half_turn(board, pin, look, board[pin][2])[0]
+    other, word = first_met(board, pin, look, board[pin][2])
     return (other, pin, OTHER_WORD[word])
 
 
-def next_stand(board, stand):
-    """The stand one beat behind this one."""
-    return stand_met(board, stand[0], look_of(board, stand))
+def line_number(board, stand):
+    """The number of the line in what is a stand."""
+    own, last, word = stand
+    look_x, look_y = look_of(board, stand)
+    x, y, own_way = board[own]
+    # What lay ahead falls to the right of a line that turns to the left, and the other way about.
+    last_way = "left" if (word == "ahead") == (own_way == "right") else "right"
+    many = 1 if board[last][2] == last_way else 0
+    for other_x, other_y, way in board:
+        left = look_x * (other_y - y) - look_y * (other_x - x)
+        if left != 0 and (left > 0) == (way == "left"):
+            many += 1
+    return many
 
 
 def stands_from(board, stand):
     """The stands from this one on, beat by beat, till it would come again, as a list."""
-    found = [stand]
-    here = next_stand(board, stand)
-    while here != stand:
-        found.append(here)
-        here = next_stand(board, here)
-    return found
+    turns = Turns(board)
+    slots = trail(turns.steps(ways_of(board)), turns.slot(stand))
+    return [turns.stands[slot] for slot in slots]
 
 
 def is_stand(board, thing):
@@ -96,20 +78,14 @@ def number_of(board, stand):
     """The number of the line in this stand as soon as it has turned ever so little."""
     need_board(board)
     need_stand(board, stand)
-    own, last, word = stand
-    look = look_of(board, stand)
-    lefts = [pin for pin, place in enumerate(board) if cross(look, gap(board[own], place)) > 0]
-    # What lay ahead falls to the right of a line that turns to the left, and the other way about.
-    if (word == "ahead") == (board[own][2] == "right"):
-        lefts.append(last)
-    return line_number(board, own, lefts)
+    return line_number(board, stand)
 
 
 def beat(board, stand):
     """The stand behind one beat."""
     need_board(board)
     need_stand(board, stand)
-    return next_stand(board, stand)
+    return stand_met(board, stand[0], look_of(board, stand))
 
 
 def ahead(board, stand):
@@ -118,8 +94,7 @@ def ahead(board, stand):
     need_stand(board, stand)
     last = stand[1]
     # Turned back about the pin that was own, the line comes to the one that was last first.
-    back = OTHER_WAY[board[last][2]]
-    other, word = half_turn(board, last, look_of(board, stand), back)[0]
+    other, word = first_met(board, last, look_of(board, stand), OTHER_WAY[board[last][2]])
     return (last, other, word)
 
 
@@ -144,5 +119,8 @@ def meetings(board, pin):
     """What a line on the pin, which turns to the left, meets in one turn: (other, word), one behind the other."""
     need_board(board)
     need_pin(board, pin)
-    half = half_turn(board, pin, MEETINGS_LOOK, "left")
+    half = [
+        (other, "ahead") if one == pin else (one, "behind")
+        for one, other in turned_pairs(board) if pin in (one, other)
+    ]
     return tuple(half + [(other, OTHER_WORD[word]) for other, word in half])

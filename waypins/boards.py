@@ -7,6 +7,9 @@ MOST_PINS = 8
 LAST_PLACE = 99
 WAYS = ("left", "right")
 OTHER_WAY = {"left": "right", "right": "left"}
+# Two unlike slopes between places are at least 1 / 9702 apart, two leans (waypins.turns) at least 1 / 19602: so many
+# times as great, both are more than 1 apart, and stay unlike in whole numbers.
+FINE = 20000
 
 
 def is_whole(thing):
@@ -20,17 +23,15 @@ def is_tuple_of(thing, many):
     return isinstance(thing, tuple) and len(thing) == many
 
 
-def is_place(thing):
-    """Whether it may be the x or the y of a pin."""
-    return is_whole(thing) and 0 <= thing <= LAST_PLACE
-
-
 def is_pin(thing):
     """Whether it is a pin (x, y, way)."""
-    if not is_tuple_of(thing, 3):
+    if not isinstance(thing, tuple) or len(thing) != 3:
         return False
     x, y, way = thing
-    return is_place(x) and is_place(y) and way in WAYS
+    # What is_whole tells, in a quicker way: every question asks it of all pins.
+    if not isinstance(x, int) or not isinstance(y, int) or x is True or x is False or y is True or y is False:
+        return False
+    return 0 <= x <= LAST_PLACE and 0 <= y <= LAST_PLACE and (way == "left" or way == "right")
 
 
 def gap(one, other):
@@ -38,25 +39,24 @@ def gap(one, other):
     return (other[0] - one[0], other[1] - one[1])
 
 
-def gaps(board):
-    """The gap of each pair of pins, from one of the two to the other."""
-    return [gap(one, other) for at, one in enumerate(board) for other in board[:at]]
-
-
-def cross(one, other):
-    """Above 0 where other points to the left of one, below 0 to the right, 0 along it either way."""
-    return one[0] * other[1] - one[1] * other[0]
+def many_slopes(board):
+    """How many unlike slopes the pairs of pins have."""
+    # An upright pair has no slope; of two pins at one place, which count as upright, any third one shows that they are.
+    return len({
+        (y - other_y) * FINE // (x - other_x) if x != other_x else None
+        for at, (x, y, _) in enumerate(board) for other_x, other_y, _ in board[:at]
+    })
 
 
 def is_board(thing):
     """Whether it is a board, of anything."""
     if not isinstance(thing, tuple) or not FEWEST_PINS <= len(thing) <= MOST_PINS:
         return False
-    if not all([is_pin(part) for part in thing]):
-        return False
-    # Three pins on one line, and two at one place, are pairs along one direction, too.
-    found = gaps(thing)
-    return all([cross(one, other) != 0 for at, one in enumerate(found) for other in found[:at]])
+    for part in thing:
+        if not is_pin(part):
+            return False
+    # Three pins on one line are pairs along one direction, too.
+    return many_slopes(thing) == len(thing) * (len(thing) - 1) // 2
 
 
 def is_pin_number(board, thing):
@@ -69,14 +69,6 @@ def is_rising_pins(board, thing):
     if not isinstance(thing, tuple) or not all([is_pin_number(board, part) for part in thing]):
         return False
     return all([one < other for one, other in zip(thing, thing[1:])])
-
-
-def is_look(board, thing):
-    """Whether it is a look on the board."""
-    if not is_tuple_of(thing, 2) or not all([is_whole(part) for part in thing]):
-        return False
-    # (0, 0) lies along every gap.
-    return all([cross(one, thing) != 0 for one in gaps(board)])
 
 
 def need_board(board):
@@ -98,9 +90,15 @@ def need_pins(board, pins):
 
 
 def need_look(board, look):
-    """Refuse what is no look on the board."""
-    if not is_look(board, look):
-        raise NoLook("this is no look on this board")
+    """Refuse what is no look on the board; told are the pins by how far each of them lies to its left."""
+    if not is_tuple_of(look, 2) or not is_whole(look[0]) or not is_whole(look[1]):
+        raise NoLook("this is no pair of whole numbers")
+    look_x, look_y = look
+    found = {look_x * y - look_y * x: pin for pin, (x, y, _) in enumerate(board)}
+    # Two pins along which it looks lie equally far to its left; where it is (0, 0), all of them do.
+    if len(found) < len(board):
+        raise NoLook("this looks along two pins")
+    return found
 
 
 def with_ways(board, pins):

@@ -1,0 +1,83 @@
+"""How much is done for an answer, counted in steps of Python's own, which hang on no clock.
+
+Checks ask thousands of questions, and each one begins with telling whether its board is one.
+"""
+
+import sys
+import unittest
+
+import kit
+from waypins.beats import after, ahead, beat, first, is_stand, meetings, number_of
+from waypins.boards import is_board, mirrored
+from waypins.numbers import heights, numbers, of_number, order
+
+# Of the boards that were tried, the one whose answers took longest.
+SLOWEST = (
+    (28, 35, "left"), (29, 28, "left"), (32, 37, "left"), (12, 11, "right"),
+    (32, 30, "left"), (39, 11, "left"), (19, 9, "right"), (5, 34, "left"),
+)
+LOOK = (1000, 1)
+STAND = (0, 1, "ahead")
+# To compare each pair of pairs, 378 of them, takes more than 7,000 steps.
+A_BOARD_AT_MOST = 2500
+
+
+def counted(call, arguments):
+    """How many of Python's steps the call takes."""
+    count = 0
+
+    def each(frame, event, _):
+        nonlocal count
+        frame.f_trace_opcodes = True
+        count += event == "opcode"
+        return each
+
+    before = sys.gettrace()
+    sys.settrace(each)
+    try:
+        call(*arguments)
+    finally:
+        sys.settrace(before)
+    return count
+
+
+def steps(call, *arguments):
+    # Some Pythons leave steps out where they are counted for the first time.
+    return max(counted(call, arguments) for _ in range(3))
+
+
+class Speed(unittest.TestCase):
+    def test_what_the_slowest_board_answers(self):
+        self.assertIs(is_board(SLOWEST), True)
+        self.assertEqual(order(SLOWEST, LOOK), (2, 0, 7, 4, 1, 3, 5, 6))
+        self.assertEqual(numbers(SLOWEST, LOOK), (3, 6, 2, 6, 5, 6, 6, 4))
+        self.assertEqual(of_number(SLOWEST, 3, LOOK), (0,))
+        self.assertEqual(beat(SLOWEST, STAND), (5, 0, "behind"))
+
+    def test_telling_a_board(self):
+        for board in (SLOWEST, kit.MIXED[5]):
+            self.assertGreater(steps(is_board, board), 100)
+            self.assertLess(steps(is_board, board), A_BOARD_AT_MOST)
+
+    def test_each_question_takes_little_more(self):
+        calls = (
+            (mirrored,), (order, LOOK), (numbers, LOOK), (heights, LOOK), (of_number, 3, LOOK), (is_stand, STAND),
+            (number_of, STAND), (beat, STAND), (ahead, STAND), (first, 0, LOOK),
+        )
+        for board in (SLOWEST, kit.MIXED[5]):
+            for call, *arguments in calls:
+                with self.subTest(call.__name__):
+                    self.assertLess(steps(call, board, *arguments), A_BOARD_AT_MOST + 1500)
+
+    def test_questions_about_more_than_one_beat(self):
+        for board in (SLOWEST, kit.MIXED[5]):
+            self.assertLess(steps(after, board, STAND, kit.MILLION_MILLION), A_BOARD_AT_MOST + 8000)
+            self.assertLess(steps(meetings, board, 0), A_BOARD_AT_MOST + 3000)
+
+    def test_a_smaller_board_takes_less(self):
+        for less, more in zip(kit.MIXED, kit.MIXED[1:]):
+            self.assertLess(steps(is_board, less), steps(is_board, more))
+
+
+if __name__ == "__main__":
+    unittest.main()
