@@ -165,3 +165,14 @@ def wrong_stands(board):
     for bad in (None, True, 0, "", "left", "Ahead", "ahead ", "aheadbehind", ["ahead"], ("ahead",), {"ahead": 1}):
         found.append((0, 1, bad))
     return found
+
+
+def wrong_rows(board):
+    many = len(board)
+    return [
+        *STRANGE, (), 0, 1, "0", "01", [0], [0, 1], {0: 1}, (0,) * 31, (0, 1) * 15 + (0,), (0, 1) * 100,
+        (-1,), (many,), (0, many), (0, -1), (0, 1, 0, 1, many), (10 ** 12,), (True,), (False,), (0, True), (False, 1),
+        (True, False), (None,), ("0",), (0, None), (0, "1"), (0, (1,)), (0, [1]), ((0, 1),), ([0, 1],),
+        (0, 1, "ahead"), ((0, 1, "ahead"),),
+        board,
+    ]

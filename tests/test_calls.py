@@ -7,12 +7,16 @@ import unittest
 
 import kit
 from kit import MIXED, SMALL
-from waypins import beats, boards, errors, numbers
-from waypins.errors import NoBoard, NoLook, NoNumber, NoPin, NoPins, NoStand
+from waypins import beats, boards, errors, numbers, pairs, rounds, seen, wishes
+from waypins.errors import NoBoard, NoLook, NoNumber, NoPin, NoPins, NoRow, NoStand
 
 STAND = (0, 1, "ahead")
 LOOK = (1000, 1)
 BOARD = ("board", SMALL, NoBoard)
+ONE = ("one", STAND, NoStand)
+OTHER = ("other", (2, 0, "behind"), NoStand)
+ROW = ("row", (0, 2, 1), NoRow)
+MODULES = (boards, numbers, beats, rounds, pairs, wishes, seen)
 # The functions with their arguments: name, a right one, the refusal of a wrong one (None: anything is answered).
 CALLS = (
     (boards.is_board, (("thing", SMALL, None),)),
@@ -31,24 +35,39 @@ CALLS = (
     (beats.first, (BOARD, ("pin", 0, NoPin), ("look", LOOK, NoLook))),
     (beats.after, (BOARD, ("stand", STAND, NoStand), ("many", 5, NoNumber))),
     (beats.meetings, (BOARD, ("pin", 0, NoPin))),
+    (rounds.round_of, (BOARD, ("stand", STAND, NoStand))),
+    (rounds.rounds, (BOARD,)),
+    (rounds.turning, (BOARD, ("stand", STAND, NoStand))),
+    (rounds.together, (BOARD, ONE, OTHER)),
+    (rounds.pins_of, (BOARD, ("stand", STAND, NoStand))),
+    (rounds.rounds_at, (BOARD, ("pin", 0, NoPin))),
+    (rounds.sums, (BOARD,)),
+    (pairs.meet, (BOARD, ONE, OTHER)),
+    (pairs.how_often, (BOARD, ONE, OTHER)),
+    (wishes.to_all, (BOARD, ("stand", STAND, NoStand))),
+    (wishes.keeping_off, (BOARD, ("stand", STAND, NoStand), ("pins", (1, 2), NoPins))),
+    (wishes.bounds, (BOARD,)),
+    (wishes.making, (BOARD, ("many", 3, NoNumber))),
+    (wishes.joining, (BOARD, ONE, OTHER)),
+    (seen.many_stories, (BOARD, ROW)),
+    (seen.sure_ways, (BOARD, ROW)),
+    (seen.is_story, (BOARD, ROW, ("thing", (("left", "left", "right"), STAND), None))),
+    (seen.some_story, (BOARD, ROW)),
+    (seen.next_pins, (BOARD, ROW)),
 )
 
 
-def wrong_ones(name, board):
-    """What is none of the kind of this argument."""
-    if name == "board":
+def wrong_ones(call, refusal, board):
+    """What is none of the kind that is refused so."""
+    if refusal is NoBoard:
         return kit.wrong_boards()
-    if name == "pins":
-        return kit.wrong_pin_tuples(board)
-    if name in ("pin", "one", "other"):
-        return kit.wrong_pin_numbers(board)
-    if name == "look":
-        return kit.wrong_looks(board)
-    if name == "number":
-        return kit.wrong_numbers()
-    if name == "many":
-        return kit.wrong_beats()
-    return kit.wrong_stands(board)
+    if refusal is NoNumber:
+        return kit.wrong_beats() if call is beats.after else kit.wrong_numbers()
+    kinds = {
+        NoPins: kit.wrong_pin_tuples, NoPin: kit.wrong_pin_numbers, NoLook: kit.wrong_looks, NoRow: kit.wrong_rows,
+        NoStand: kit.wrong_stands,
+    }
+    return kinds[refusal](board)
 
 
 def right_ones(arguments):
@@ -73,12 +92,12 @@ class Calls(unittest.TestCase):
             self.assertTrue(all(one.default is one.empty for one in found))
 
     def test_each_stands_in_its_own_module(self):
-        for module in (boards, numbers, beats):
+        for module in MODULES:
             for call, _ in CALLS:
                 if getattr(module, call.__name__, None) is call:
                     self.assertEqual(call.__module__, module.__name__)
         told = {call.__module__ for call, _ in CALLS}
-        self.assertEqual(told, {"waypins.boards", "waypins.numbers", "waypins.beats"})
+        self.assertEqual(told, {module.__name__ for module in MODULES})
 
     def test_by_places_and_by_names_in_another_order(self):
         for call, arguments in CALLS:
@@ -98,17 +117,17 @@ class Calls(unittest.TestCase):
         for call, arguments in CALLS:
             right = right_ones(arguments)
             answer = repr(call(*right))
-            for at, (name, _, refusal) in enumerate(arguments):
+            for at, (_, _, refusal) in enumerate(arguments):
                 if refusal is not None:
-                    for wrong in wrong_ones(name, right[0]):
+                    for wrong in wrong_ones(call, refusal, right[0]):
                         self.refused(call, right[:at] + [wrong] + right[at + 1:], refusal)
             self.assertEqual(repr(call(*right)), answer)
 
     def test_of_several_wrong_arguments_the_leftmost_is_refused(self):
         for call, arguments in CALLS:
             rows = []
-            for name, right, refusal in arguments:
-                wrong = [] if refusal is None else wrong_ones(name, arguments[0][1])[::6]
+            for _, right, refusal in arguments:
+                wrong = [] if refusal is None else wrong_ones(call, refusal, arguments[0][1])[::6]
                 rows.append([(right, None)] + [(one, refusal) for one in wrong])
             for chosen in itertools.product(*rows):
                 due = [refusal for _, refusal in chosen if refusal is not None]
@@ -124,21 +143,18 @@ class Calls(unittest.TestCase):
 
     def test_wrong_ones_of_a_greater_board(self):
         board = MIXED[5]
-        calls = (
-            (boards.with_ways, ("pins",)), (boards.without, ("pin",)), (numbers.order, ("look",)),
-            (numbers.numbers, ("look",)), (numbers.heights, ("look",)), (beats.beat, ("stand",)),
-            (beats.ahead, ("stand",)), (beats.number_of, ("stand",)), (beats.meetings, ("pin",)),
-        )
-        refusals = {"pins": NoPins, "pin": NoPin, "look": NoLook, "stand": NoStand}
-        for call, (name,) in calls:
-            for wrong in wrong_ones(name, board):
-                self.refused(call, [board, wrong], refusals[name])
+        for call, arguments in CALLS:
+            if len(arguments) == 2 and arguments[1][2] is not None:
+                refusal = arguments[1][2]
+                for wrong in wrong_ones(call, refusal, board):
+                    self.refused(call, [board, wrong], refusal)
 
     def test_of_anything_the_answer_is_true_or_false(self):
         for thing in (*kit.STRANGE, *kit.wrong_boards()):
             before = copy.deepcopy(thing)
             self.assertIs(boards.is_board(thing), False)
             self.assertIs(beats.is_stand(SMALL, thing), False)
+            self.assertIs(seen.is_story(SMALL, (0, 2, 1), thing), False)
             self.assertEqual(repr(thing), repr(before))
 
     def test_what_was_told_may_be_handed_in(self):
@@ -147,6 +163,20 @@ class Calls(unittest.TestCase):
         self.assertIs(beats.is_stand(board, beats.ahead(board, stand)), True)
         with self.assertRaises(NoLook):
             numbers.order(board, boards.direction(board, 4, 2))
+        board = boards.with_ways(board, wishes.making(board, wishes.bounds(board)[1]))
+        word, many = rounds.together(board, stand, beats.after(board, stand, 3))
+        self.assertEqual((word, beats.after(board, stand, many)), ("one", beats.after(board, stand, 3)))
+        row = rounds.pins_of(board, stand)
+        story = seen.some_story(board, row[:1])
+        self.assertIs(seen.is_story(board, row[:1], story), True)
+        self.assertEqual(rounds.turning(board, rounds.rounds(board)[0][0]), rounds.turning(board, (0, 1, "ahead")))
+
+    def test_what_was_handed_in_is_as_it_was(self):
+        for call, arguments in CALLS:
+            right = right_ones(arguments)
+            before = copy.deepcopy(right)
+            call(*right)
+            self.assertEqual(repr(right), repr(before))
 
 
 if __name__ == "__main__":

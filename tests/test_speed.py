@@ -10,6 +10,10 @@ import kit
 from waypins.beats import after, ahead, beat, first, is_stand, meetings, number_of
 from waypins.boards import is_board, mirrored
 from waypins.numbers import heights, numbers, of_number, order
+from waypins.pairs import how_often, meet
+from waypins.rounds import pins_of, round_of, rounds, rounds_at, sums, together, turning
+from waypins.seen import many_stories, next_pins, some_story, sure_ways
+from waypins.wishes import bounds, joining, keeping_off, making, to_all
 
 # Of the boards that were tried, the one whose answers took longest.
 SLOWEST = (
@@ -18,6 +22,7 @@ SLOWEST = (
 )
 LOOK = (1000, 1)
 STAND = (0, 1, "ahead")
+OTHER = (4, 5, "behind")
 # To compare each pair of pairs, 378 of them, takes more than 7,000 steps.
 A_BOARD_AT_MOST = 2500
 
@@ -73,6 +78,27 @@ class Speed(unittest.TestCase):
         for board in (SLOWEST, kit.MIXED[5]):
             self.assertLess(steps(after, board, STAND, kit.MILLION_MILLION), A_BOARD_AT_MOST + 8000)
             self.assertLess(steps(meetings, board, 0), A_BOARD_AT_MOST + 3000)
+
+    def test_questions_about_rounds(self):
+        calls = (
+            (round_of, STAND), (rounds,), (turning, STAND), (together, STAND, OTHER), (pins_of, STAND), (rounds_at, 0),
+            (sums,), (meet, STAND, OTHER), (how_often, STAND, OTHER),
+        )
+        for board in (SLOWEST, kit.MIXED[5]):
+            for call, *arguments in calls:
+                with self.subTest(call.__name__):
+                    self.assertLess(steps(call, board, *arguments), A_BOARD_AT_MOST + 25000)
+
+    def test_questions_about_ways(self):
+        for board in (SLOWEST, kit.MIXED[5]):
+            row = tuple(after(board, STAND, many)[0] for many in range(30))
+            calls = (
+                (to_all, STAND), (keeping_off, STAND, (1,)), (joining, STAND, OTHER), (bounds,), (making, 24),
+                (many_stories, row), (sure_ways, row), (some_story, row), (next_pins, row),
+            )
+            for call, *arguments in calls:
+                with self.subTest(call.__name__):
+                    self.assertLess(steps(call, board, *arguments), A_BOARD_AT_MOST + 200000)
 
     def test_a_smaller_board_takes_less(self):
         for less, more in zip(kit.MIXED, kit.MIXED[1:]):
