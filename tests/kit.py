@@ -69,6 +69,13 @@ def changed(board, at, **parts):
     return board[:at] + (pin,) + board[at + 1:]
 
 
+def text_of(board):
+    words = []
+    for x, y, way in board:
+        words.append(str(x) + "," + str(y) + ("<" if way == LEFT else ">"))
+    return " ".join(words)
+
+
 def nested(depth):
     thing = 0
     for _ in range(depth):
@@ -80,7 +87,11 @@ STRANGE = (
     None, True, False, "", "left", "ahead", "a" * 2000, "\t\n ~", [], {}, {"x": 1}, {0: (1,)}, {(0, 1): [None]},
     [0, [1, (2, {"a": [None, True]})]], nested(8), (0,) * 2000, [[]] * 2000, ((),), ([],), (None, None),
     ("left", "left", "left"), ([], [], []), ({}, {}, {}), (None, None, None), (True, False, True),
+    # Things of kinds that the document does not tell of; some of them are equal to numbers.
+    0.0, 1.0, 2.5, 1j, b"", b"left", {0, 1}, frozenset((0, 1)), range(3), len, int,
 )
+# Neither of these is what it looks like.
+SIGNS_LIKE_FIGURES = ("\u0661", "\u00b2", "\uff11")
 
 
 def wrong_boards():
@@ -176,3 +187,25 @@ def wrong_rows(board):
         (0, 1, "ahead"), ((0, 1, "ahead"),),
         board,
     ]
+
+
+def wrong_texts():
+    """Things that are no board's text, each but for a little one."""
+    right = text_of(SMALL)
+    nine = text_of(MIXED[5]) + " 60,93<"
+    found = [
+        *STRANGE, (), 0, [right], (right,), {right: right}, SMALL, right.encode(), " ", "  ", ",", "<", ",<", "0,0<",
+        "0,0< 40,3<", nine, "0,0< 10,10< 99,99>", "5,0< 5,40< 5,99>", "0,0< 3,1> 50,90< 56,92>", "0,0< 0,0> 11,29>",
+        " " + right, right + " ", "\n" + right, right + "\n", right + "\t", right.replace(" ", "\t"),
+        right.replace(" ", "\n"), right.replace(" ", "  "), "0,0<  40,3< 11,29>", "0,0< 40,3<  11,29>",
+        right.replace(" ", ""), right.replace(" ", ","), "0, 0< 40,3< 11,29>", "0 ,0< 40,3< 11,29>",
+        "0,0 < 40,3< 11,29>", "board " + right, right + ".", right.upper() + "L", "0,0L 40,3L 11,29R",
+        "0,0left 40,3left 11,29right", "<0,0 <40,3 >11,29", "0;0< 40;3< 11;29>", "(0,0<) (40,3<) (11,29>)",
+        "0,0<40,3< 11,29>", "0,0 40,3 11,29", "0,0<< 40,3< 11,29>", "0,0<> 40,3< 11,29>", "0,0,0< 40,3< 11,29>",
+        "0< 40,3< 11,29>", ",0< 40,3< 11,29>", "0,< 40,3< 11,29>", "0,,0< 40,3< 11,29>", ",< 40,3< 11,29>",
+    ]
+    for bad in ("00", "01", "000", "007", "+1", "+0", "-0", "-1", "100", "099", "1000000000000", "1.0", "1e1", "0x1",
+                "1_1", "a", "", " 1", "True", *SIGNS_LIKE_FIGURES):
+        for text in (f"{bad},0<", f"0,{bad}<"):
+            found += [f"{text} 40,3< 11,29>", f"40,3< {text} 11,29>", f"11,29> 40,3< {text}"]
+    return found

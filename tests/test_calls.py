@@ -7,8 +7,8 @@ import unittest
 
 import kit
 from kit import MIXED, SMALL
-from waypins import beats, boards, errors, numbers, pairs, rounds, seen, wishes
-from waypins.errors import NoBoard, NoLook, NoNumber, NoPin, NoPins, NoRow, NoStand
+from waypins import beats, boards, changes, desk, errors, numbers, pairs, rounds, seen, table, texts, wishes
+from waypins.errors import NoBoard, NoLook, NoNumber, NoPin, NoPins, NoRow, NoStand, NoText
 
 STAND = (0, 1, "ahead")
 LOOK = (1000, 1)
@@ -16,7 +16,18 @@ BOARD = ("board", SMALL, NoBoard)
 ONE = ("one", STAND, NoStand)
 OTHER = ("other", (2, 0, "behind"), NoStand)
 ROW = ("row", (0, 2, 1), NoRow)
-MODULES = (boards, numbers, beats, rounds, pairs, wishes, seen)
+# The modules with their functions, as the interface lists them.
+INTERFACE = (
+    (boards, "is_board with_ways mirrored without direction"),
+    (numbers, "order numbers heights of_number"),
+    (beats, "is_stand number_of beat ahead first after meetings"),
+    (rounds, "round_of rounds turning together pins_of rounds_at sums"),
+    (pairs, "meet how_often"),
+    (wishes, "to_all keeping_off bounds making joining"),
+    (seen, "many_stories sure_ways is_story some_story next_pins"),
+    (changes, "count_turned rounds_kept rounds_left"),
+    (texts, "board_text read_board"),
+)
 # The functions with their arguments: name, a right one, the refusal of a wrong one (None: anything is answered).
 CALLS = (
     (boards.is_board, (("thing", SMALL, None),)),
@@ -54,6 +65,19 @@ CALLS = (
     (seen.is_story, (BOARD, ROW, ("thing", (("left", "left", "right"), STAND), None))),
     (seen.some_story, (BOARD, ROW)),
     (seen.next_pins, (BOARD, ROW)),
+    (changes.count_turned, (BOARD, ("pin", 0, NoPin))),
+    (changes.rounds_kept, (("board", MIXED[1], NoBoard), ("pin", 3, NoPin))),
+    (changes.rounds_left, (("board", MIXED[1], NoBoard), ("pin", 3, NoPin))),
+    (texts.board_text, (BOARD,)),
+    (texts.read_board, (("text", "0,0< 40,3< 11,29>", NoText),)),
+)
+# The classes, and their methods with their arguments; those of a table may be called one behind the other.
+METHODS = (
+    (table.Table, (("board", SMALL),), (
+        ("lay", (("pin", 0), ("look", LOOK))), ("turn", (("pin", 2),)), ("beats", (("many", 5),)), ("board", ()),
+        ("where", ()), ("number", ()), ("twin", ()), ("away", ()), ("undo", ()),
+    )),
+    (desk.Desk, (), (("say", (("line", "show"),)),)),
 )
 
 
@@ -63,6 +87,8 @@ def wrong_ones(call, refusal, board):
         return kit.wrong_boards()
     if refusal is NoNumber:
         return kit.wrong_beats() if call is beats.after else kit.wrong_numbers()
+    if refusal is NoText:
+        return kit.wrong_texts()
     kinds = {
         NoPins: kit.wrong_pin_tuples, NoPin: kit.wrong_pin_numbers, NoLook: kit.wrong_looks, NoRow: kit.wrong_rows,
         NoStand: kit.wrong_stands,
@@ -92,12 +118,38 @@ class Calls(unittest.TestCase):
             self.assertTrue(all(one.default is one.empty for one in found))
 
     def test_each_stands_in_its_own_module(self):
-        for module in MODULES:
-            for call, _ in CALLS:
-                if getattr(module, call.__name__, None) is call:
-                    self.assertEqual(call.__module__, module.__name__)
-        told = {call.__module__ for call, _ in CALLS}
-        self.assertEqual(told, {module.__name__ for module in MODULES})
+        for module, words in INTERFACE:
+            for word in words.split():
+                self.assertEqual(vars(module)[word].__module__, module.__name__)
+        told = [(call.__module__, call.__name__) for call, _ in CALLS]
+        self.assertEqual(told, [(module.__name__, word) for module, words in INTERFACE for word in words.split()])
+
+    def test_names_of_the_classes_and_their_methods(self):
+        for made, arguments, methods in METHODS:
+            self.assertEqual(made.__module__, "waypins." + made.__name__.lower())
+            self.assertEqual(list(inspect.signature(made).parameters), [name for name, _ in arguments])
+            for word, given in methods:
+                found = list(inspect.signature(vars(made)[word]).parameters.values())[1:]
+                self.assertEqual([one.name for one in found], [name for name, _ in given])
+                self.assertTrue(all(one.kind is one.POSITIONAL_OR_KEYWORD for one in found))
+                self.assertTrue(all(one.default is one.empty for one in found))
+        for word in ("__len__", "__eq__", "__repr__"):
+            self.assertIn(word, vars(table.Table))
+
+    def test_methods_by_places_and_by_names_in_another_order(self):
+        for made, arguments, methods in METHODS:
+            by_places = made(*[right for _, right in arguments])
+            by_names = made(**dict(arguments))
+            for word, given in methods:
+                before = copy.deepcopy(given)
+                told = repr(getattr(by_places, word)(*[right for _, right in given]))
+                self.assertEqual(repr(getattr(by_names, word)(**dict(reversed(given)))), told)
+                self.assertEqual(repr(given), repr(before))
+
+    def test_deeds_tell_none(self):
+        made = table.Table(SMALL)
+        for call, *given in ((made.lay, 0, LOOK), (made.turn, 0), (made.beats, 3), (made.away,), (made.undo,)):
+            self.assertIsNone(call(*given))
 
     def test_by_places_and_by_names_in_another_order(self):
         for call, arguments in CALLS:
@@ -155,6 +207,7 @@ class Calls(unittest.TestCase):
             self.assertIs(boards.is_board(thing), False)
             self.assertIs(beats.is_stand(SMALL, thing), False)
             self.assertIs(seen.is_story(SMALL, (0, 2, 1), thing), False)
+            self.refused(desk.Desk().say, [thing], errors.NoLine)
             self.assertEqual(repr(thing), repr(before))
 
     def test_what_was_told_may_be_handed_in(self):
@@ -170,6 +223,10 @@ class Calls(unittest.TestCase):
         story = seen.some_story(board, row[:1])
         self.assertIs(seen.is_story(board, row[:1], story), True)
         self.assertEqual(rounds.turning(board, rounds.rounds(board)[0][0]), rounds.turning(board, (0, 1, "ahead")))
+        for stands in (*changes.rounds_kept(board, 2), *changes.rounds_left(board, 2)):
+            self.assertEqual(rounds.round_of(board, stands[-1]), stands)
+        self.assertEqual(texts.read_board(texts.board_text(board)), board)
+        self.assertEqual(desk.Desk().say("board " + texts.board_text(board)), "ok")
 
     def test_what_was_handed_in_is_as_it_was(self):
         for call, arguments in CALLS:

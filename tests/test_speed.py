@@ -9,10 +9,14 @@ import unittest
 import kit
 from waypins.beats import after, ahead, beat, first, is_stand, meetings, number_of
 from waypins.boards import is_board, mirrored
+from waypins.changes import count_turned, rounds_kept, rounds_left
+from waypins.desk import Desk
 from waypins.numbers import heights, numbers, of_number, order
 from waypins.pairs import how_often, meet
 from waypins.rounds import pins_of, round_of, rounds, rounds_at, sums, together, turning
 from waypins.seen import many_stories, next_pins, some_story, sure_ways
+from waypins.table import Table
+from waypins.texts import board_text, read_board
 from waypins.wishes import bounds, joining, keeping_off, making, to_all
 
 # Of the boards that were tried, the one whose answers took longest.
@@ -82,7 +86,8 @@ class Speed(unittest.TestCase):
     def test_questions_about_rounds(self):
         calls = (
             (round_of, STAND), (rounds,), (turning, STAND), (together, STAND, OTHER), (pins_of, STAND), (rounds_at, 0),
-            (sums,), (meet, STAND, OTHER), (how_often, STAND, OTHER),
+            (sums,), (meet, STAND, OTHER), (how_often, STAND, OTHER), (count_turned, 0), (rounds_kept, 0),
+            (rounds_left, 0),
         )
         for board in (SLOWEST, kit.MIXED[5]):
             for call, *arguments in calls:
@@ -99,6 +104,28 @@ class Speed(unittest.TestCase):
             for call, *arguments in calls:
                 with self.subTest(call.__name__):
                     self.assertLess(steps(call, board, *arguments), A_BOARD_AT_MOST + 200000)
+
+    def test_deeds_and_texts(self):
+        for board in (SLOWEST, kit.MIXED[5]):
+            table, desk = Table(board), Desk()
+            text = board_text(board)
+            calls = (
+                (Table, board), (table.lay, 0, LOOK), (table.turn, 0), (table.beats, 1), (table.number,), (table.twin,),
+                (table.undo,), (board_text, board), (read_board, text), (desk.say, "board " + text),
+                (desk.say, "lay 0 1000 1"), (desk.say, "beats 1"), (desk.say, "where"), (desk.say, "turns"),
+            )
+            for call, *arguments in calls:
+                with self.subTest(call.__name__):
+                    self.assertLess(steps(call, *arguments), 2 * A_BOARD_AT_MOST + 25000)
+
+    def test_a_deed_takes_no_more_behind_many(self):
+        table = Table(SLOWEST)
+        table.lay(0, LOOK)
+        table.beats(1)
+        soon = steps(table.beats, 1)
+        for _ in range(300):
+            table.beats(1)
+        self.assertLess(steps(table.beats, 1), soon + 2000)
 
     def test_a_smaller_board_takes_less(self):
         for less, more in zip(kit.MIXED, kit.MIXED[1:]):

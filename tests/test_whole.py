@@ -1,4 +1,4 @@
-"""[1], [3]: the whole, of rounds, of their numbers, and of ways turned about."""
+"""[1], [3]: the whole, of rounds, of their numbers, of ways turned and pins taken, of tables and desks."""
 
 import unittest
 
@@ -6,8 +6,14 @@ import brute
 import kit
 from kit import BOARDS, PLACES, TIGHT
 from waypins.beats import ahead, beat, number_of
-from waypins.boards import mirrored, with_ways
-from waypins.rounds import round_of, rounds, sums, turning
+from waypins.boards import mirrored, with_ways, without
+from waypins.changes import count_turned, rounds_kept, rounds_left
+from waypins.desk import Desk
+from waypins.numbers import numbers
+from waypins.rounds import pins_of, round_of, rounds, rounds_at, sums, turning
+from waypins.table import Table
+from waypins.texts import board_text, read_board
+from waypins.wishes import bounds
 
 WORDS = {"ahead": "behind", "behind": "ahead"}
 TURNED_ABOUT = {"left": "right", "right": "left", "none": "none"}
@@ -78,6 +84,82 @@ class Whole(unittest.TestCase):
                 self.assertEqual(sorted(round_of(about, back[0])), sorted(back))
                 self.assertEqual(turning(about, back[0]), TURNED_ABOUT[turning(board, stands[0])])
             self.assertEqual(len(rounds(about)), len(rounds(board)))
+
+    def test_a_way_turned_makes_as_many_or_fewer_or_more_by_an_even_number(self):
+        for board in BOARDS:
+            fewest, most = bounds(board)
+            for pin in range(len(board)):
+                before, behind = count_turned(board, pin)
+                self.assertEqual((before - len(board)) % 2, 0)
+                self.assertEqual((behind - len(board)) % 2, 0)
+                self.assertTrue(fewest <= min(before, behind) and max(before, behind) <= most)
+
+    def test_rounds_kept_with_a_way_turned_are_those_that_never_come_to_the_pin(self):
+        for board in BOARDS:
+            for pin in range(len(board)):
+                turned = with_ways(board, (pin,))
+                told = rounds_kept(board, pin)
+                self.assertEqual(set(told), set(rounds(board)) - set(rounds_at(board, pin)))
+                for stands in told:
+                    self.assertNotIn(pin, pins_of(board, stands[0]))
+                    self.assertEqual(round_of(turned, stands[0]), stands)
+                    self.assertEqual(turning(turned, stands[0]), turning(board, stands[0]))
+
+    def test_a_round_left_without_a_pin_has_one_number_as_much_or_one_more_than_there(self):
+        found = set()
+        for board in BOARDS:
+            if len(board) > 3:
+                for pin in range(len(board)):
+                    less = without(board, pin)
+                    for stands in rounds_left(board, pin):
+                        there = [(own - (own > pin), last - (last > pin), word) for own, last, word in stands]
+                        self.assertEqual(round_of(less, there[0]), tuple(there))
+                        self.assertEqual(turning(less, there[0]), turning(board, stands[0]))
+                        more = {number_of(board, one) - number_of(less, its) for one, its in zip(stands, there)}
+                        self.assertEqual(len(more), 1)
+                        found |= more
+        self.assertEqual(found, {0, 1})
+
+    def test_a_line_laid_at_a_table_keeps_the_number_that_its_look_tells(self):
+        for board in BOARDS:
+            for look in kit.LOOKS:
+                told = numbers(board, look)
+                for pin, number in enumerate(told):
+                    table = Table(board)
+                    table.lay(pin, look)
+                    for many in (0, 1, 4, kit.MILLION_MILLION):
+                        table.beats(many)
+                        self.assertEqual(table.number(), number)
+                    self.assertEqual(number_of(table.board(), table.where()[1]), number)
+
+    def test_a_desk_answers_as_its_table_does(self):
+        for board in BOARDS:
+            desk, table = Desk(), Table(board)
+            desk.say("board " + board_text(board))
+            for pin in range(len(board)):
+                for line in (f"lay {pin} 1000 1", f"turn {pin}", "beats 1", "beats 999"):
+                    self.assertEqual(desk.say(line), "ok")
+                table.lay(pin, (1000, 1))
+                table.turn(pin)
+                table.beats(1)
+                table.beats(999)
+                stand = table.where()[1]
+                self.assertEqual(read_board(desk.say("show")), table.board())
+                self.assertEqual(desk.say("where"), "{} {} {}".format(*stand))
+                self.assertEqual(desk.say("number"), str(table.number()))
+                self.assertEqual(desk.say("rounds"), str(len(rounds(table.board()))))
+                self.assertEqual(desk.say("turns"), turning(table.board(), stand))
+                self.assertEqual(desk.say("pins"), " ".join(map(str, pins_of(table.board(), stand))))
+
+    def test_a_line_at_a_table_comes_again(self):
+        for board in BOARDS:
+            table = Table(board)
+            table.lay(0, (1000, 1))
+            table.beats(1)
+            twin = table.twin()
+            twin.beats(len(round_of(board, table.where()[1])))
+            self.assertTrue(twin == table)
+            self.assertEqual(len(twin), 3)
 
     def test_in_the_mirror_there_are_the_same_rounds(self):
         for board in BOARDS:

@@ -89,6 +89,13 @@ def need_pins(board, pins):
         raise NoPins("this is no rising tuple of pins' numbers")
 
 
+def need_one_to_spare(board):
+    """Refuse a board that would have too few pins without one of them."""
+    many = len(board) - 1
+    if many < FEWEST_PINS:
+        raise TooFew(many, FEWEST_PINS)
+
+
 def need_look(board, look):
     """Refuse what is no look on the board; told are the pins by how far each of them lies to its left."""
     if not is_tuple_of(look, 2) or not is_whole(look[0]) or not is_whole(look[1]):
@@ -121,9 +128,7 @@ def without(board, pin):
     """The board without this pin, the others in their order."""
     need_board(board)
     need_pin(board, pin)
-    many = len(board) - 1
-    if many < FEWEST_PINS:
-        raise TooFew(many, FEWEST_PINS)
+    need_one_to_spare(board)
     return board[:pin] + board[pin + 1:]
 
 

@@ -28,6 +28,11 @@ def all_rounds(board):
     return sorted([from_least([turns.stands[slot] for slot in row]) for row in slots])
 
 
+def comes_to(stands, pin):
+    """Whether a line ever has the pin for its own in these stands."""
+    return pin in [own for own, _, _ in stands]
+
+
 def round_of(board, stand):
     """The round of the stand: the stands from the least one on, beat by beat."""
     need_board(board)
@@ -75,7 +80,7 @@ def rounds_at(board, pin):
     """The rising tuple of the rounds that come to the pin."""
     need_board(board)
     need_pin(board, pin)
-    return tuple([stands for stands in all_rounds(board) if pin in [own for own, _, _ in stands]])
+    return tuple([stands for stands in all_rounds(board) if comes_to(stands, pin)])
 
 
 def sums(board):
